@@ -1,0 +1,1 @@
+"""What one index does for one question, worked out exactly."""
