@@ -9,6 +9,12 @@ INDEX = 2
 PLAN = 3
 WHY = 4
 WORK = 5
+WHOLE = 6
+BEST = 7
+TRACE = 8
+ANSWER = 9
+ROWS = 10
+PREFIXES = 11
 
 
 class UnknownCall(ValueError):
@@ -19,19 +25,29 @@ def answers(calls):
     """Of each call how many numbers are answered, and these."""
     bench = Bench()
     told = []
-    place = 0
-    while place < len(calls):
-        call = calls[place]
-        numbers = []
-        place += 1
-        if call in (TABLE, QUESTION, INDEX):
-            behind = place + 1 + calls[place]
-            numbers = calls[place + 1:behind]
-            place = behind
+    for call, numbers in split_calls(calls):
         answer = answer_or_refusal(bench, call, numbers)
         told.append(len(answer))
         told.extend(answer)
     return told
+
+
+def split_calls(calls):
+    """Each call's number, and the numbers that it's handed."""
+    apart = []
+    place = 0
+    while place < len(calls):
+        call = calls[place]
+        first = place + 1
+        behind = first
+        if call in (TABLE, QUESTION, INDEX):
+            first = place + 2
+            behind = first + calls[place + 1]
+        elif call in (TRACE, ANSWER):
+            behind = first + 1
+        apart.append((call, calls[first:behind]))
+        place = behind
+    return apart
 
 
 def answer_or_refusal(bench, call, numbers):
@@ -56,4 +72,16 @@ def answer_one(bench, call, numbers):
         return bench.why()
     if call == WORK:
         return bench.work()
+    if call == WHOLE:
+        return bench.whole()
+    if call == BEST:
+        return bench.best()
+    if call == TRACE:
+        return bench.trace(numbers[0])
+    if call == ANSWER:
+        return bench.answer(numbers[0])
+    if call == ROWS:
+        return bench.rows()
+    if call == PREFIXES:
+        return bench.prefixes()
     raise UnknownCall(f"no such call: {call}")

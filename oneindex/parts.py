@@ -2,9 +2,10 @@
 
 
 class Group:
-    """Rows that are alike: their value in each column, and how many they are."""
+    """Rows that are alike: the group's number, their value in each column, and how many they are."""
 
-    def __init__(self, cells, size):
+    def __init__(self, number, cells, size):
+        self.number = number
         self.cells = cells
         self.size = size
 
@@ -90,6 +91,10 @@ class Index:
     def own_columns(self):
         """Keys and included ones; the condition's column is none by itself."""
         return self.key_columns + self.included
+
+    def with_first_keys(self, key_count):
+        """The index with only so many of its keys, from the first one on."""
+        return Index(self.key_columns[:key_count], self.included, self.condition)
 
     def holds(self, group):
         """Whether the rows of this group are in the index."""

@@ -39,6 +39,11 @@ def is_free(index, question):
     return first_out_of_order(index, question) == -1
 
 
+def is_free_by_table(question):
+    """Whether the table's rows already lie in the question's order."""
+    return len(question.without_equal(question.order)) == 0
+
+
 def count_equal_keys(index, question):
     """Of how many keys, from the first one on, there are equal filters."""
     equal_keys = 0

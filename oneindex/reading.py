@@ -40,13 +40,13 @@ def read_table(numbers):
     width = reader.take(1, MOST_COLUMNS)
     group_count = reader.take(0, MOST_GROUPS)
     groups = []
-    for turn in range(group_count):
+    for number in range(group_count):
         cells = []
         for column in range(width):
             cells.append(reader.take(0, TOP_VALUE))
         if cells in [group.cells for group in groups]:
             raise NotWhole()
-        groups.append(Group(cells, reader.take(1, MOST_IN_GROUP)))
+        groups.append(Group(number, cells, reader.take(1, MOST_IN_GROUP)))
     reader.finish()
     return Table(width, groups)
 

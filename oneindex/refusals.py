@@ -16,6 +16,20 @@ class NotWhole(Refusal):
         Refusal.__init__(self, -1)
 
 
+class TooManyEntries(Refusal):
+    """More entries are in the range than are gone through row by row."""
+
+    def __init__(self):
+        Refusal.__init__(self, -4)
+
+
+class NoSuchWay(Refusal):
+    """The way is neither the whole table nor the index."""
+
+    def __init__(self):
+        Refusal.__init__(self, -5)
+
+
 class NotServing(Refusal):
     """The index doesn't serve the question."""
 

@@ -1,9 +1,5 @@
-"""What's done by an index, group by group."""
+"""What's done one way, reckoned group by group."""
 
-from oneindex.parts import passes_all
-from oneindex.planning import covers, groups_in_range, is_free
-
-TOUCH_COST = 1
 LOOK_UP_COST = 4
 SORT_COST = 3
 
@@ -11,49 +7,46 @@ SORT_COST = 3
 class Step:
     """How many of a group's rows are touched, looked up and found."""
 
-    def __init__(self, touched, looked_up, found):
+    def __init__(self, group, touched, looked_up, found):
+        self.group = group
         self.touched = touched
         self.looked_up = looked_up
         self.found = found
 
 
-def groups_as_touched(table, index, question):
-    """The groups in the range, in the order in which their entries are touched."""
-    groups = sorted(
-        groups_in_range(table, index, question),
-        key=lambda group: [group.cells[column] for column in index.key_columns],
-    )
-    if question.backwards:
-        # Turned round as a whole: those alike in all keys are turned, too.
-        groups.reverse()
-    return groups
+class Work:
+    """How many rows are touched, looked up and sorted in all, and what it costs."""
+
+    def __init__(self, touched, looked_up, put_in_order, cost):
+        self.touched = touched
+        self.looked_up = looked_up
+        self.put_in_order = put_in_order
+        self.cost = cost
 
 
-def steps_by_index(table, index, question):
+def steps_of(way):
     """A step for each group that is touched, the last one in part if the limit ends it."""
-    ends_at_limit = question.limit > 0 and is_free(index, question)
-    looks_up = not covers(index, question)
-    own_filters = question.filters_on(index.own_columns())
-    missing = question.limit
+    found_at_end = way.found_at_end()
+    missing = found_at_end
     steps = []
-    for group in groups_as_touched(table, index, question):
-        is_found = passes_all(question.filters, group)
+    for group in way.groups:
+        is_found = way.finds(group)
         touched = group.size
-        if ends_at_limit and is_found:
+        if found_at_end > 0 and is_found:
             touched = min(touched, missing)
             missing -= touched
-        looked_up = touched if looks_up and passes_all(own_filters, group) else 0
-        steps.append(Step(touched, looked_up, touched if is_found else 0))
-        if ends_at_limit and missing == 0:
+        looked_up = touched if way.looks_up(group) else 0
+        steps.append(Step(group, touched, looked_up, touched if is_found else 0))
+        if found_at_end > 0 and missing == 0:
             break
     return steps
 
 
-def work_by_index(table, index, question):
-    """How many entries are touched, looked up, sorted, and what it costs."""
-    steps = steps_by_index(table, index, question)
+def work_of(way):
+    """All steps of this way together."""
+    steps = steps_of(way)
     touched = sum([step.touched for step in steps])
     looked_up = sum([step.looked_up for step in steps])
-    in_order = 0 if is_free(index, question) else sum([step.found for step in steps])
-    cost = TOUCH_COST * touched + LOOK_UP_COST * looked_up + SORT_COST * in_order
-    return [touched, looked_up, in_order, cost]
+    put_in_order = 0 if way.free else sum([step.found for step in steps])
+    cost = way.touch_cost * touched + LOOK_UP_COST * looked_up + SORT_COST * put_in_order
+    return Work(touched, looked_up, put_in_order, cost)

@@ -5,8 +5,17 @@ from oneindex.helps import answers
 PLAN = [3]
 WHY = [4]
 WORK = [5]
+WHOLE = [6]
+BEST = [7]
+ROWS = [10]
+PREFIXES = [11]
+
+BY_TABLE = 0
+BY_INDEX = 1
 
 NOT_WHOLE = [-1]
+TOO_MANY = [-4]
+NO_WAY = [-5]
 NOT_SERVING = [-6]
 NO_INDEX = [-7]
 NO_TABLE = [-8]
@@ -42,6 +51,14 @@ def indexing(keys, included=(), condition=None):
     """An index call."""
     behind = [0] if condition is None else [1, *condition]
     return index(len(keys), *keys, len(included), *included, *behind)
+
+
+def trace(way):
+    return [8, way]
+
+
+def answer(way):
+    return [9, way]
 
 
 def ask(*calls):

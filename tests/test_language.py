@@ -81,6 +81,39 @@ class Language(unittest.TestCase):
             self.assertTrue(node.level == 0 and node.module.startswith("oneindex."), place)
             self.assertTrue(all(each.asname is None and each.name != "*" for each in node.names), place)
 
+    def test_no_two_files_draw_from_one_another(self):
+        drawn = {}
+        for name, text, tree in self.each():
+            modules = [node.module for node in ast.walk(tree) if isinstance(node, ast.ImportFrom)]
+            drawn[f"oneindex.{name[:-3]}"] = modules
+        self.assertEqual(drawn.pop("oneindex.__init__"), [])
+        while drawn:
+            ready = [name for name, modules in drawn.items() if not set(modules) & set(drawn)]
+            self.assertTrue(ready, drawn)
+            drawn = {name: modules for name, modules in drawn.items() if name not in ready}
+
+    def test_keywords(self):
+        allowed = {"sorted": ("key", "reverse"), "min": ("key", "default"), "max": ("key", "default")}
+        for place, node in self.nodes(ast.Call):
+            for keyword in node.keywords:
+                self.assertIn(keyword.arg, allowed.get(getattr(node.func, "id", ""), ()), place)
+                if keyword.arg == "reverse":
+                    self.assertIsInstance(keyword.value, ast.Constant, place)
+
+    def test_is_stands_beside_none_and_truth_values(self):
+        for place, node in self.nodes(ast.Compare):
+            for sign, value in zip(node.ops, node.comparators):
+                if isinstance(sign, (ast.Is, ast.IsNot)):
+                    self.assertIn(getattr(value, "value", 0), (None, True, False), place)
+
+    def test_locals_are_not_called_like_classes_or_imports(self):
+        for name, text, tree in self.each():
+            barred = [node.name for node in tree.body if isinstance(node, ast.ClassDef)]
+            barred += [each.name for node in tree.body if isinstance(node, ast.ImportFrom) for each in node.names]
+            bound = [node.arg for node in ast.walk(tree) if isinstance(node, ast.arg)]
+            bound += [node.id for node in ast.walk(tree) if isinstance(node, ast.Name) and isinstance(node.ctx, ast.Store)]
+            self.assertEqual(set(barred) & set(bound), set(), name)
+
     def test_names_that_are_called(self):
         own = {node.name for place, node in self.nodes((ast.FunctionDef, ast.ClassDef))}
         for place, node in self.nodes(ast.Call):
